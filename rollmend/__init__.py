@@ -1,0 +1,1 @@
+"""Rollmend: letters by which a newer text is made of an elder one."""
