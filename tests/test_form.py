@@ -1,4 +1,4 @@
-"""The package held against the rules of LANGUAGE.md that can be seen from the outside of a file's text."""
+"""The package held against the greater part of LANGUAGE.md; L13, L18, L19, L24, L26 and L28 are left to the reader."""
 
 import ast
 import builtins
