@@ -3,7 +3,7 @@
 from rollmend.checks import check_key, check_size, check_text, is_from
 from rollmend.errors import NoCards
 from rollmend.letters import plain
-from rollmend.sums import first_sum, rolled, second_sum
+from rollmend.sums import first_sum, rolled_sums, second_sum
 
 
 def cards(key, size, elder):
@@ -56,17 +56,6 @@ def is_card(thing):
     if not isinstance(first, tuple) or len(first) != 2:
         return False
     return is_from(first[0], 0) and is_from(first[1], 0) and is_from(thing[1], 0)
-
-
-def rolled_sums(key, size, text):
-    if len(text) < size:
-        return []
-    found = first_sum(key, text[:size])
-    firsts = [found]
-    for place in range(len(text) - size):
-        found = rolled(key, found, size, text[place], text[place + size])
-        firsts.append(found)
-    return firsts
 
 
 def earliest_blocks(told):

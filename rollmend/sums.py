@@ -25,6 +25,17 @@ def rolled(key, found, many, gone, come):
     return (plain % few, leaning % few)
 
 
+def rolled_sums(key, size, text):
+    if len(text) < size:
+        return []
+    found = first_sum(key, text[:size])
+    firsts = [found]
+    for place in range(len(text) - size):
+        found = rolled(key, found, size, text[place], text[place + size])
+        firsts.append(found)
+    return firsts
+
+
 def second_sum(key, text):
     check_key(key)
     check_text(text)

@@ -1,5 +1,7 @@
 """What several tests need: wrong things of every kind, and the document's words done the slow way."""
 
+import itertools
+
 PERCENT = "\x25"
 ALL_SIGNS = "".join(chr(number) for number in range(32, 127) if number != 37)
 # 2000 signs, not repeating with any size that the tests use.
@@ -156,3 +158,57 @@ def slow_found_by(key, size, told, newer):
         found += range(last * size, last * size + size)
         place += size
     return of_atoms(found)
+
+
+def slow_talk(key, size, elder, newer):
+    told = [slow_card(key, elder[k * size:k * size + size]) for k in range(len(elder) // size)]
+    letter = slow_found_by(key, size, told, newer)
+    made = "".join(elder[atom] if isinstance(atom, int) else atom for atom in atoms(letter))
+    if slow_second_sum(key[1] + 1, key[2], made) == slow_second_sum(key[1] + 1, key[2], newer):
+        return ("mended", made, letter)
+    return ("told", newer, [("signs", newer)])
+
+
+def slow_least(elder, newer):
+    found = []
+    place = 0
+    while place < len(newer):
+        lengths = [many for many in range(1, len(newer) - place + 1) if newer[place:place + many] in elder]
+        if not lengths:
+            found.append(newer[place])
+            place += 1
+            continue
+        many = max(lengths)
+        first = min(k for k in range(len(elder)) if elder[k:k + many] == newer[place:place + many])
+        found += range(first, first + many)
+        place += many
+    return of_atoms(found)
+
+
+def slow_cut_places(key, window, part, text):
+    found = []
+    for end in range(1, len(text) + 1):
+        if end >= window and sum(slow_first_sum(key, text[end - window:end])) % part == 0:
+            found.append(end)
+    return found
+
+
+def slow_stretches(key, window, part, text):
+    ends = [0] + slow_cut_places(key, window, part, text) + [len(text)]
+    return [text[begin:end] for begin, end in zip(ends, ends[1:]) if begin < end]
+
+
+def slow_found_by_cuts(key, window, part, elder, newer):
+    elders = slow_stretches(key, window, part, elder)
+    found = []
+    for stretch in slow_stretches(key, window, part, newer):
+        if stretch in elders:
+            first = len("".join(elders[:elders.index(stretch)]))
+            found += range(first, first + len(stretch))
+        else:
+            found += stretch
+    return of_atoms(found)
+
+
+def small_texts(signs, most):
+    return ["".join(chosen) for many in range(most + 1) for chosen in itertools.product(signs, repeat=many)]

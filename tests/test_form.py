@@ -1,4 +1,4 @@
-"""The package held against the greater part of LANGUAGE.md; L13, L18, L19, L24, L26 and L28 are left to the reader."""
+"""The package held against LANGUAGE.md; of L15, L22 and L23 what calls and loops may change is left to the reader."""
 
 import ast
 import builtins
@@ -213,6 +213,45 @@ class Names(unittest.TestCase):
             for node in ast.walk(tree):
                 if isinstance(node, ast.Call) and isinstance(node.func, ast.Name) and node.func.id in WALKED:
                     self.assertIn(id(node), walked, (name, node.lineno))
+
+
+class NotUsed(unittest.TestCase):
+    """L13, L19, L24, L26 and L28 bound what the package does not use at all."""
+
+    def test_no_sets(self):
+        for name, node in nodes(ast.Name):
+            self.assertNotIn(node.id, ("set", "frozenset"), (name, node.lineno))
+
+    def test_no_try_and_no_lambda(self):
+        for name, node in nodes((ast.Try, ast.Lambda)):
+            self.fail((name, node.lineno))
+
+    def test_no_methods(self):
+        for name, node in nodes(ast.ClassDef):
+            self.assertEqual([inner.__class__ for inner in node.body], [ast.Pass], (name, node.lineno))
+
+    def test_classes_are_bases_or_raised(self):
+        classes = {node.name for _, node in nodes(ast.ClassDef)}
+        for name, tree in trees().items():
+            met = set()
+            for node in ast.walk(tree):
+                if isinstance(node, ast.ClassDef):
+                    met |= {id(base) for base in node.bases}
+                if isinstance(node, ast.Raise):
+                    self.assertIsInstance(node.exc, ast.Call, (name, node.lineno))
+                    self.assertIn(node.exc.func.id, classes, (name, node.lineno))
+                    met.add(id(node.exc.func))
+            for node in ast.walk(tree):
+                if isinstance(node, ast.Name) and node.id in classes:
+                    self.assertIn(id(node), met, (name, node.lineno))
+
+    def test_no_keywords_and_no_list_at_a_top(self):
+        for name, node in nodes(ast.keyword):
+            self.fail((name, node.value.lineno))
+        for name, tree in trees().items():
+            for node in tree.body:
+                if isinstance(node, ast.Assign):
+                    self.assertIsInstance(node.value, ast.Constant, (name, node.lineno))
 
 
 if __name__ == "__main__":

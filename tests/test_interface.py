@@ -3,7 +3,7 @@
 import inspect
 import unittest
 
-from rollmend import cards, letters, sums
+from rollmend import cards, cuts, leasts, letters, lines, sums, talks
 
 TOLD = [
     (sums, "first_sum", ["key", "text"]),
@@ -17,6 +17,14 @@ TOLD = [
     (letters, "behind", ["one", "other"]),
     (cards, "cards", ["key", "size", "elder"]),
     (cards, "found_by", ["key", "size", "told", "newer"]),
+    (talks, "talk", ["key", "size", "elder", "newer"]),
+    (leasts, "least", ["elder", "newer"]),
+    (leasts, "back", ["elder", "letter"]),
+    (cuts, "cut_places", ["key", "window", "part", "text"]),
+    (cuts, "stretches", ["key", "window", "part", "text"]),
+    (cuts, "found_by_cuts", ["key", "window", "part", "elder", "newer"]),
+    (lines, "shown", ["letter"]),
+    (lines, "read", ["text"]),
 ]
 
 
